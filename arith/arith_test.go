@@ -355,12 +355,34 @@ func TestNotWideShifts(t *testing.T) {
 	})
 }
 
-// TestTidiedOnce: what is wide is tidy, which a third time might make narrower still; it is not Tidied again.
-func TestTidiedOnce(t *testing.T) {
+// few are numbers of which two times of narrowing leave 24 and 25, with the bits of 24 alone, and a third time leaves 24.
+var few = with(all, func(b *api.Bound) { b.Umin, b.Umax, b.Bits = 16, 25, api.Tnum{Value: 8, Mask: 22} })
+
+// shiftedFew are few times two.
+var shiftedFew = with(all, func(b *api.Bound) { b.Umin, b.Umax, b.Bits = 32, 50, api.Tnum{Value: 16, Mask: 44} })
+
+// TestWideIsTidiedOnce: a third time might make it narrower still, but it is not Tidied again.
+func TestWideIsTidiedOnce(t *testing.T) {
 	b := with(all, func(b *api.Bound) { b.Umin, b.Umax, b.Bits = 2, 4, api.Tnum{Value: 1, Mask: 10} })
-	for _, wide := range []bool{true, false} {
-		check(t, api.Mov, wide, []example{{all, b, to(2, 3, 3, 0)}})
-	}
+	check(t, api.Mov, true, []example{
+		{all, b, to(2, 3, 3, 0)},
+		{all, few, to(24, 25, 24, 0)},
+		{n(0), shiftedFew, to(48, 50, 48, 0)},
+	})
+	check(t, api.Add, true, []example{{few, n(0), to(24, 25, 24, 0)}, {n(0), few, to(24, 25, 24, 0)}})
+	check(t, api.Sub, true, []example{{few, n(0), to(24, 25, 24, 0)}})
+	check(t, api.Lsh, true, []example{{few, n(0), to(24, 25, 24, 0)}, {few, n(1), to(48, 50, 48, 0)}})
+}
+
+// TestNotWideIsTidiedBehindLow: Low leaves what is tidy as it is, and then it is made tidy as all that follows is.
+func TestNotWideIsTidiedBehindLow(t *testing.T) {
+	b := with(all, func(b *api.Bound) { b.Umin, b.Umax, b.Bits = 2, 4, api.Tnum{Value: 1, Mask: 10} })
+	check(t, api.Mov, false, []example{{all, b, n(3)}, {all, few, n(24)}, {few, few, n(24)}, {n(0), shiftedFew, n(48)}})
+	check(t, api.Add, false, []example{{few, n(0), n(24)}, {n(0), few, n(24)}, {few, n(1 << 32), n(24)}})
+	check(t, api.Sub, false, []example{{few, n(0), n(24)}})
+	check(t, api.Lsh, false, []example{{few, n(32), n(24)}, {few, n(1), n(48)}})
+	check(t, api.Rsh, false, []example{{few, n(0), n(24)}, {shiftedFew, n(1), n(24)}})
+	check(t, api.Arsh, false, []example{{few, n(0), n(24)}, {shiftedFew, n(33), n(24)}})
 }
 
 // empty are bounds that may be, but no number is in.

@@ -47,6 +47,11 @@ func (r said) close() api.Bound {
 	if r.bits != nil {
 		b.Bits = *r.bits
 	}
+	return tidied(b)
+}
+
+// tidied answers b tidy, or Any, if that is empty.
+func tidied(b api.Bound) api.Bound {
 	if t, ok := bound.Tidy(b); ok {
 		return t
 	}
@@ -202,5 +207,5 @@ func modelAlu(op int, a, b api.Bound, wide bool) (api.Bound, bool) {
 		return r.close(), true
 	}
 	r, _ := modelSaid(op, bound.Low(a), bound.Low(b), false)
-	return bound.Low(r.close()), true
+	return tidied(bound.Low(r.close())), true
 }

@@ -68,6 +68,16 @@ func around(chance *rand.Rand, x uint64) api.Bound {
 	return b
 }
 
+// small answers a bound of numbers of few bits, not tidy: it may be empty.
+func small(chance *rand.Rand) api.Bound {
+	b := bound.Any()
+	x, y := chance.Uint64()%64, chance.Uint64()%64
+	b.Umin, b.Umax = min(x, y), max(x, y)
+	b.Bits.Mask = chance.Uint64() % 64
+	b.Bits.Value = chance.Uint64() % 64 &^ b.Bits.Mask
+	return b
+}
+
 // anything answers a bound as it comes: it may be empty, or may not be at all.
 func anything(chance *rand.Rand) api.Bound {
 	b := api.Bound{Umin: some(chance), Umax: some(chance), Smin: int64(some(chance)), Smax: int64(some(chance))}
