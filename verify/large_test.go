@@ -39,3 +39,32 @@ func TestManyStates(t *testing.T) {
 		t.Errorf("%d after %d visits", v.Code, v.Visits)
 	}
 }
+
+// TestManyThatSayIt: of the visits that have ended many say it, far from one another.
+func TestManyThatSayIt(t *testing.T) {
+	for _, n := range []int{10, 100, 1000, 3000} {
+		p := row(
+			byteAt(4, 1, 2),
+			equal(4, 0, 8), // the last way: to 300
+			byteAt(0, 1, 0),
+			mov(3, 0),
+			add(0, 1), // a round: r0 is from its number to 255 more
+			byteAt(2, 1, 1),
+			equal(2, 7, 4), // on behind 300
+			add(3, 1),
+			below(3, n, -5),
+			ja(1),
+			mov(0, 300),
+			mov(2, 0),
+			mov(3, 0),
+			mov(4, 0),
+			exit,
+		)
+		// ahead of the rounds, each of them, behind them; then back from the last one, from the others, and from 300
+		visits := 4 + 5*n + 5 + 2 + 4*(n-1) + 4
+		if n < 45 {
+			visits++ // no round is of 300
+		}
+		accepts(t, p, visits, map[int]api.Fact{0: seen(1, 2, 2), 2: seen(1, 0, 0), 5: seen(1, 1, 1)})
+	}
+}
